@@ -352,7 +352,8 @@ class DaySet:
         early = self._head[place_of(self._head, low):place_of(self._head, high)]
         if not self._cycle:
             return early
-        first = max(0, (low - self._start) // self._period)
-        last = (high - 1 - self._start) // self._period
-        late = [day + turn * self._period for turn in range(first, last + 1) for day in self._cycle]
+        period = self._period
+        first = max(0, (low - self._start) // period)
+        moves = range(first * period, max(0, high - self._start), period)
+        late = [day + move for move in moves for day in self._cycle]
         return early + late[place_of(late, low):place_of(late, high)]

@@ -136,15 +136,22 @@ def check_examples(examples):
         raise BadDays(examples)
 
 
+def explains(yearly, wanted):
+    """Whether a yearly day has the wanted number in each of the wanted kinds of years."""
+    for kind, number in wanted:
+        if number_in(yearly, kind) != number:
+            return False
+    return True
+
+
 def explaining(examples):
     """The yearly days that name these days in these years, one of those that are the same for ever."""
     check_examples(examples)
     wanted = [(kind_of(year), examples[year] - year_start(year)) for year in examples]
     found = {}
     for yearly in all_yearly():
-        table = table_of(yearly)
-        if all([table[kind] == number for kind, number in wanted]):
-            found.setdefault(tuple(table.values()), yearly)
+        if explains(yearly, wanted):
+            found.setdefault(tuple(table_of(yearly).values()), yearly)
     return list(found.values())
 
 

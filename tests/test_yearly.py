@@ -108,7 +108,7 @@ class YearlyTest(unittest.TestCase):
         for year in [*SAMPLES, 1600, 1900, 2100, 2200, 2300, 2400, 1999]:
             for yearly in BOUNDS:
                 self.assertEqual(day_in(yearly, year), named(yearly, year), (yearly, year))
-        for yearly in ALL[::5]:
+        for yearly in ALL[::19]:
             for year in SAMPLES:
                 self.assertEqual(day_in(yearly, year), named(yearly, year), (yearly, year))
 
