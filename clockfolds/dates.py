@@ -44,7 +44,7 @@ def month_length(month, leap):
 
 
 def month_start(month, leap):
-    """The number of the first day of a month in its year, from 0 on."""
+    """The number of the first day of a month in its year, from 0 on; behind month 12, the year's length."""
     leap_day = 1 if leap and month > 2 else 0
     return sum(MONTH_LENGTHS[:month - 1]) + leap_day
 
@@ -77,7 +77,7 @@ def date_of(day):
     leap = is_leap(year)
     number = day - year_start(year)
     month = 1
-    while month < 12 and month_start(month + 1, leap) <= number:
+    while month_start(month + 1, leap) <= number:
         month += 1
     return year, month, number - month_start(month, leap) + 1
 

@@ -60,6 +60,17 @@ class YearTest(unittest.TestCase):
             length = 366 if is_leap(year) else 365
             self.assertEqual(year_start(year + 1) - year_start(year), length)
 
+    def test_years_and_days_of_30_digits(self):
+        for far in (10 ** 30 - 1, -10 ** 30 + 1, 5 * 10 ** 29 + 37):
+            near = 2000 + far % 400
+            self.assertEqual(kind_of(far), kind_of(near))
+            self.assertEqual(is_leap(far), is_leap(near))
+            self.assertEqual(year_start(far), year_start(near) + (far - near) // 400 * 146097)
+            self.assertEqual(day_of(*date_of(far)), far)
+            self.assertEqual(weekday(far), (far + 5) % 7)
+            self.assertEqual(week_of(far)[1:], week_of(far % 146097)[1:])
+            self.assertEqual(date_of(far)[1:], date_of(far % 146097)[1:])
+
     def test_kinds_over_400_years(self):
         kinds = [kind_of(year) for year in range(2000, 2400)]
         self.assertEqual(len(set(kinds)), 14)
