@@ -173,7 +173,7 @@ class DaySet:
         if not is_day_list(weekdays) or any([weekday > 6 for weekday in weekdays]):
             raise BadDays(weekdays)
         # Day 0 is a Saturday, so the first Monday is day 2.
-        return cls(0, 7, sorted({(weekday + 2) % 7 for weekday in weekdays}))
+        return cls(0, 7, sorted(set([(weekday + 2) % 7 for weekday in weekdays])))
 
     @classmethod
     def pattern(cls, head, cycle):

@@ -5,9 +5,13 @@ import pathlib
 import unittest
 
 import clockfolds
-from clockfolds import dates, daysets, errors, yearly
+from clockfolds import comparing, dates, daysets, errors, moments, readings, yearly, zones
 from clockfolds.daysets import DaySet
+from clockfolds.errors import BadNumber, BadRow, BadYearly, BadZone
+from clockfolds.moments import Moment
+from clockfolds.zones import Zone
 from models import form
+from zone_models import SUMMER
 
 FUNCTIONS = {
     dates: {
@@ -18,20 +22,55 @@ FUNCTIONS = {
         "is_yearly": "value", "day_in": "yearly, year", "yearly_set": "yearly", "table_of": "yearly",
         "first_unlike_year": "yearly, other, year", "explaining": "examples", "deciding_year": "examples, year",
     },
+    zones: {"check_rule": "rule", "rule_changes": "rule, year", "rule_table": "rule"},
+    readings: {
+        "reading_at": "zone, instant", "instants_of": "zone, reading", "fold_at": "zone, instant",
+        "profile": "zone, low, high", "resolved": "zone, reading, *, fold=0, gap=None",
+        "days_with": "zone, second, offset", "skipped": "zone, second", "repeated": "zone, second",
+    },
+    moments: {"agrees": "zone, low, high, seconds"},
+    comparing: {
+        "mixed": "one, other", "first_broken": "moments", "first_turn": "zone, instant", "order": "moments",
+    },
 }
 
-MAKERS = {"of": "days", "span": "low, high=None", "every": "period, first=0", "weekdays": "weekdays",
-          "pattern": "head, cycle"}
+FILES = {DaySet: daysets, Zone: zones, Moment: moments}
+
+MAKERS = {
+    DaySet: {"of": "days", "span": "low, high=None", "every": "period, first=0", "weekdays": "weekdays",
+             "pattern": "head, cycle"},
+    Zone: {"fixed": "offset"},
+    Moment: {"of": "zone, year, month, day, second=0, *, fold=0, gap=None"},
+}
 
 METHODS = {
-    "within": "other", "shifted": "days", "how_many": "low, high", "nth": "number", "next_from": "day", "last_to": "day",
-    "days": "low, high", "first_beyond": "other", "first_unlike": "other", "following": "other",
-    "each": "number, first=0",
+    DaySet: {
+        "within": "other", "shifted": "days", "how_many": "low, high", "nth": "number", "next_from": "day",
+        "last_to": "day", "days": "low, high", "first_beyond": "other", "first_unlike": "other", "following": "other",
+        "each": "number, first=0",
+    },
+    Zone: {
+        "__init__": "offset, changes=(), *, rule=None, since=None", "offset_at": "instant", "changes": "low, high",
+        "next_change": "instant", "first_unlike": "other",
+    },
+    Moment: {
+        "__init__": "zone, instant", "fold": "", "in_zone": "zone", "moved": "*, days=0, seconds=0, fold=0, gap=None",
+    },
 }
 
-OPERATORS = ["__or__", "__and__", "__sub__", "__xor__", "__invert__", "__eq__", "__contains__", "__bool__"]
+OPERATORS = {
+    DaySet: ["__or__", "__and__", "__sub__", "__xor__", "__invert__", "__eq__", "__contains__", "__bool__"],
+    Zone: ["__eq__"],
+    Moment: ["__eq__", "__lt__", "__le__", "__gt__", "__ge__", "__add__", "__sub__"],
+}
 
-PROPERTIES = ["start", "period", "head", "cycle", "is_finite"]
+PROPERTIES = {
+    DaySet: ["start", "period", "head", "cycle", "is_finite"],
+    Zone: ["form"],
+    Moment: ["zone", "instant", "offset", "reading", "day", "second", "date"],
+}
+
+OBJECTS = [DaySet.every(3, 5), Zone(3600, rule=SUMMER, since=0), Moment(Zone(60), 5)]
 
 
 class InterfaceTest(unittest.TestCase):
@@ -43,18 +82,20 @@ class InterfaceTest(unittest.TestCase):
                 self.assertEqual(str(inspect.signature(function)), f"({arguments})")
                 self.assertEqual(function.__module__, module.__name__)
 
-    def test_day_sets(self):
-        self.assertEqual(DaySet.__module__, daysets.__name__)
-        for name, arguments in MAKERS.items():
-            self.assertIsInstance(vars(DaySet)[name], classmethod)
-            self.assertEqual(str(inspect.signature(getattr(DaySet, name))), f"({arguments})")
-        for name, arguments in METHODS.items():
-            self.assertEqual(str(inspect.signature(vars(DaySet)[name])), f"(self, {arguments})")
-        for name in OPERATORS:
-            self.assertIn(name, vars(DaySet))
-        days = DaySet.every(3, 5)
-        for name in PROPERTIES:
-            self.assertTrue(hasattr(days, name))
+    def test_classes(self):
+        for kind, module in FILES.items():
+            self.assertEqual(kind.__module__, module.__name__)
+            for name, arguments in MAKERS[kind].items():
+                self.assertIsInstance(vars(kind)[name], classmethod)
+                self.assertEqual(str(inspect.signature(getattr(kind, name))), f"({arguments})")
+            for name, arguments in METHODS[kind].items():
+                told = f"(self, {arguments})" if arguments else "(self)"
+                self.assertEqual(str(inspect.signature(vars(kind)[name])), told)
+            for name in OPERATORS[kind]:
+                self.assertIn(name, vars(kind))
+        for one in OBJECTS:
+            for name in PROPERTIES[type(one)]:
+                self.assertTrue(hasattr(one, name))
 
     def test_errors_stand_in_their_file(self):
         for name in ("ClockError", "BadNumber", "BadDate", "BadDays", "BadYearly", "BadRow", "BadOrder", "BadZone",
@@ -89,11 +130,72 @@ class ConventionsTest(unittest.TestCase):
         self.assertIs(type(days.head), list)
         self.assertIs(type(days.cycle), list)
 
-    def test_day_sets_are_not_modified(self):
-        days = DaySet.every(3, 5)
-        for name in PROPERTIES:
-            with self.assertRaises(AttributeError):
-                setattr(days, name, 1)
+    def test_objects_are_not_modified(self):
+        for one in OBJECTS:
+            for name in PROPERTIES[type(one)]:
+                with self.assertRaises(AttributeError):
+                    setattr(one, name, 1)
+
+    def test_objects_equal_nothing_but_their_kind(self):
+        for one in OBJECTS:
+            for other in [*OBJECTS, 5, 3600, None, "", (), [], {}, object(), type(one)]:
+                self.assertIs(one == other, one is other)
+                self.assertIs(one != other, one is not other)
+
+    def test_lists_and_tuples(self):
+        # A list may be passed as a tuple, but not a list where a tuple is documented.
+        self.assertEqual(Zone(0, ((5, 60),)), Zone(0, [(5, 60)]))
+        pair = [Moment(Zone(0), 5), Moment(Zone(0), 3)]
+        self.assertEqual(comparing.order(tuple(pair)), comparing.order(pair))
+        self.assertEqual(comparing.first_broken(tuple(pair)), None)
+        with self.assertRaises(BadZone):
+            Zone(0, [[5, 60]])
+        yearly_day, *rest = SUMMER[0]
+        for rule in (list(SUMMER), (list(SUMMER[0]), SUMMER[1]), ((list(yearly_day), *rest), SUMMER[1])):
+            for question in (zones.check_rule, zones.rule_table, lambda rule: Zone(0, rule=rule, since=0)):
+                with self.assertRaises(BadRow) as caught:
+                    question(rule)
+                self.assertEqual(caught.exception.index, 0)
+        with self.assertRaises(BadYearly):
+            yearly.day_in(list(yearly_day), 2000)
+
+    def test_truths_are_not_numbers(self):
+        zone = Zone(0)
+        for truth in (True, False):
+            for question in (
+                lambda: Zone(truth), lambda: Zone.fixed(truth), lambda: Zone(0, rule=SUMMER, since=truth),
+                lambda: zones.rule_changes(SUMMER, truth), lambda: zone.offset_at(truth),
+                lambda: readings.reading_at(zone, truth), lambda: readings.instants_of(zone, truth),
+                lambda: readings.fold_at(zone, truth), lambda: readings.profile(zone, truth, 5),
+                lambda: readings.profile(zone, -5, truth), lambda: readings.resolved(zone, truth),
+                lambda: readings.resolved(zone, 5, fold=truth), lambda: readings.days_with(zone, truth, 0),
+                lambda: readings.days_with(zone, 0, truth), lambda: readings.skipped(zone, truth),
+                lambda: readings.repeated(zone, truth), lambda: Moment(zone, truth),
+                lambda: Moment.of(zone, 2000, 1, 1, truth), lambda: Moment(zone, 5) + truth,
+                lambda: Moment(zone, 5) - truth, lambda: Moment(zone, 5).moved(fold=truth),
+                lambda: comparing.first_turn(zone, truth),
+            ):
+                with self.assertRaises(BadNumber) as caught:
+                    question()
+                self.assertIs(caught.exception.value, truth)
+
+    def test_equal_calls_return_equal_results(self):
+        one, other = (Zone(3600, [(5, 7200)], rule=SUMMER, since=10 ** 7) for _ in range(2))
+        self.assertEqual(one.form, other.form)
+        self.assertEqual(readings.profile(one, 0, 10 ** 8), readings.profile(other, 0, 10 ** 8))
+        self.assertEqual(readings.skipped(one, 9000), readings.skipped(other, 9000))
+        self.assertEqual(comparing.first_turn(one, 6), comparing.first_turn(other, 6))
+
+    def test_lists_of_readings_and_moments_are_new(self):
+        zone = Zone(0, [(100, -50)])
+        for question in (lambda: readings.instants_of(zone, 60), lambda: readings.profile(zone, 0, 200),
+                         lambda: moments.agrees(zone, 0, 200, 60), lambda: zones.rule_changes(SUMMER, 2000),
+                         lambda: comparing.order([Moment(zone, 5)]), lambda: list(zone.changes(0, 200))):
+            found = question()
+            self.assertIs(type(found), list)
+            self.assertNotEqual(found, [])
+            found.clear()
+            self.assertNotEqual(question(), [])
 
     def test_by_name(self):
         self.assertIs(dates.is_number(value=1), True)

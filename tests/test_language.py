@@ -31,6 +31,15 @@ def bound(node):
     return []
 
 
+def called(node):
+    """The name of the function that a node calls, or None."""
+    return node.func.id if isinstance(node, ast.Call) and isinstance(node.func, ast.Name) else None
+
+
+def is_whole(node):
+    return isinstance(node, ast.Constant) and type(node.value) is int
+
+
 class LanguageTest(unittest.TestCase):
 
     def test_folder(self):
@@ -84,6 +93,45 @@ class LanguageTest(unittest.TestCase):
                 self.assertIsInstance(node, kinds, path)
                 if isinstance(node, ast.Expr):
                     self.assertIsInstance(node.value, ast.Constant, path)
+
+    def test_sorted_and_max(self):
+        # Beside a class with an order, these take only what is plainly numbers.
+        for path, _, tree in parsed():
+            for node in ast.walk(tree):
+                if called(node) == "sorted":
+                    self.assertEqual([called(node.args[0]), len(node.args), node.keywords], ["set", 1, []], path)
+                if called(node) in ("min", "max"):
+                    self.assertEqual(len(node.args), 2, path)
+                    self.assertTrue(any(is_whole(one) for one in node.args), (path, node.lineno))
+
+    def test_statements(self):
+        for path, _, tree in parsed():
+            for node in ast.walk(tree):
+                self.assertNotIsInstance(node, (ast.GeneratorExp, ast.Lambda, ast.Try, ast.With))
+                if isinstance(node, ast.AugAssign):
+                    self.assertTrue(isinstance(node.target, ast.Name) and is_whole(node.value), (path, node.lineno))
+                if isinstance(node, ast.Compare) and any(isinstance(sign, (ast.Is, ast.IsNot)) for sign in node.ops):
+                    self.assertIsNone(node.comparators[0].value, path)
+                if isinstance(node, ast.Attribute):
+                    self.assertNotIn(node.attr, ("sort", "__eq__", "__lt__", "format"), path)
+
+    def test_names_of_generators(self):
+        names, generators = [], []
+        for _, _, tree in parsed():
+            for node in ast.walk(tree):
+                if isinstance(node, ast.FunctionDef):
+                    names.append(node.name)
+                    if any(isinstance(part, (ast.Yield, ast.YieldFrom)) for part in ast.walk(node)):
+                        generators.append(node.name)
+        self.assertEqual([name for name in generators if names.count(name) > 1], [])
+
+    def test_methods_and_attributes(self):
+        for path, _, tree in parsed():
+            for kind in [node for node in ast.walk(tree) if isinstance(node, ast.ClassDef)]:
+                methods = {node.name for node in kind.body if isinstance(node, ast.FunctionDef)}
+                stored = {node.attr for node in ast.walk(kind)
+                          if isinstance(node, ast.Attribute) and isinstance(node.ctx, ast.Store)}
+                self.assertEqual(methods & stored, set(), path)
 
 
 if __name__ == "__main__":

@@ -26,6 +26,32 @@ SESSION = """
 [(2024, 3, 31), (2025, 3, 30)]
 >>> (first_unlike_year(("last", 3, 6), ("from", 3, 25, 6), 2000), first_unlike_year(("nth", 2, 4, 0), ("last", 2, 0), 2025))
 (None, 2044)
+
+>>> from clockfolds.zones import Zone
+>>> summer = ((("last", 3, 6), 3600, "utc", 7200), (("last", 10, 6), 3600, "utc", 3600))
+>>> walls = ((("from", 3, 25, 6), 7200, "wall", 7200), (("from", 10, 25, 6), 10800, "wall", 3600))
+>>> zone = Zone(3600, rule=summer, since=0)
+>>> (zone == Zone(3600, rule=walls, since=0), zone.first_unlike(Zone.fixed(3600)), zone.next_change(0))
+(True, 7347600, (7347600, 7200))
+
+>>> from clockfolds.readings import instants_of, profile, repeated, resolved, skipped
+>>> spring, autumn = 85 * 86400 + 9000, 302 * 86400 + 9000
+>>> (instants_of(zone, spring), resolved(zone, spring, gap="before"), resolved(zone, spring, gap="after"))
+([], 7349400, 7345800)
+>>> instants_of(zone, autumn)
+[26094600, 26098200]
+>>> (skipped(zone, 9000).nth(1), repeated(zone, 9000).how_many(0, 146097), profile(zone, autumn - 9000, autumn))
+(449, 400, [(26092800, 26100000, 1), (26100000, 26101800, 2)])
+
+>>> from clockfolds.moments import Moment
+>>> first = Moment.of(zone, 2000, 10, 29, 9000)
+>>> (Moment.of(zone, 2000, 10, 29, 9000, fold=1) - first, first.offset, first.moved(days=1).date)
+(3600, 7200, (2000, 10, 30))
+
+>>> from clockfolds.comparing import first_broken, first_turn, mixed
+>>> early, late, other = Moment(zone, 26096399), Moment(zone, 26096400), Moment(Zone.fixed(0), 26096400)
+>>> (mixed(early, late), mixed(late, other), first_broken([early, late, other]), first_turn(zone, 0))
+(1, 0, (0, 2, 1), (26092800, 26096400))
 """
 
 
@@ -36,7 +62,7 @@ class SessionTest(unittest.TestCase):
         told = []
         result = doctest.DocTestRunner(verbose=False).run(session, out=told.append)
         self.assertEqual((result.failed, "".join(told)), (0, ""))
-        self.assertEqual(result.attempted, 13)
+        self.assertEqual(result.attempted, 29)
 
 
 if __name__ == "__main__":
