@@ -251,7 +251,8 @@ class Zone:
         instant = 0
         while self.offset_at(instant) == other.offset_at(instant):
             # As they differ later, at least one of them changes.
-            found = [change[0] for change in (self.next_change(instant), other.next_change(instant)) if change]
+            both = [self.next_change(instant), other.next_change(instant)]
+            found = [change[0] for change in both if change is not None]
             instant = found[0] if found[0] < found[-1] else found[-1]
         return instant
 

@@ -70,6 +70,14 @@ class DaysTest(unittest.TestCase):
         self.assertEqual(skipped(zone, 86399), DaySet.of([]))
         self.assertEqual(repeated(zone, 0), DaySet.of([10, 30]))
 
+    def test_day_0(self):
+        zone = Zone(0, [(100, -100)])
+        self.assertEqual([repeated(zone, second) for second in (0, 99, 100)],
+                         [DaySet.of([0]), DaySet.of([0]), DaySet.of([])])
+        self.assertEqual(days_with(zone, 0, 0), DaySet.of([0]))
+        self.assertEqual(days_with(zone, 0, -100), DaySet.span(0))
+        self.assertEqual(skipped(Zone(1), 0), DaySet.of([0]))
+
     def test_fixed(self):
         for offset in (-86399, -1, 0, 1, 86399):
             zone = Zone.fixed(offset)

@@ -143,6 +143,7 @@ class ChangesTest(unittest.TestCase):
         self.assertEqual(list(Zone(0, rule=SUMMER, since=0).changes(0, 60)), [])
         self.assertEqual(list(Zone(0, [(5, 3600), (9, 0)], rule=SUMMER, since=50).changes(9, 60)), [(9, 0), (50, 3600)])
         self.assertEqual(list(Zone(0, [(5, 7200), (9, 3600)], rule=SUMMER, since=50).changes(9, 60)), [(9, 3600)])
+        self.assertEqual(list(Zone(0, [(5, 7200)], rule=SUMMER, since=7347600).changes(0, 8 * 10 ** 6)), [(5, 7200)])
         self.assertEqual(Zone(0, rule=SUMMER, since=7347600).next_change(5), (7347600, 7200))
         self.assertEqual(Zone(7200, rule=SUMMER, since=7347600).next_change(5), (26096400, 3600))
 
