@@ -82,8 +82,9 @@ def least_start(period, head, cycle):
     unlike = cycle_day(period, cycle, -1 - same)
     if rest and rest[-1] > unlike:
         unlike = rest[-1]
-    turned = [cycle_day(period, cycle, number) for number in range(-same, len(cycle) - same)]
-    return max(0, unlike + 1), rest, turned
+    turns, at = divmod(-same, len(cycle))
+    early = [day + turns * period for day in cycle[at:]]
+    return max(0, unlike + 1), rest, early + [day + (turns + 1) * period for day in cycle[:at]]
 
 
 def common_frame(one, other):
@@ -235,11 +236,17 @@ class DaySet:
         return DaySet(start, period, in_either(self._listed(0, end), other._listed(0, end)))
 
     def __and__(self, other):
+        if self.is_finite:
+            return DaySet(self._start, 1, other._among(self._head))
+        if other.is_finite:
+            return DaySet(other._start, 1, self._among(other._head))
         start, period = common_frame(self, other)
         end = start + period
         return DaySet(start, period, in_both(self._listed(0, end), other._listed(0, end)))
 
     def __sub__(self, other):
+        if self.is_finite:
+            return DaySet(self._start, 1, in_first(self._head, other._among(self._head)))
         start, period = common_frame(self, other)
         end = start + period
         return DaySet(start, period, in_first(self._listed(0, end), other._listed(0, end)))
@@ -255,15 +262,25 @@ class DaySet:
 
     def within(self, other):
         """Whether all days of this set are in the other one."""
-        return not (self - other)
+        return self.first_beyond(other) is None
 
     def first_beyond(self, other):
         """The least day of this set that is not in the other one, or None."""
-        return (self - other).next_from(0)
+        if self.is_finite or not other.is_finite:
+            return (self - other).next_from(0)
+        # The other set has a last day, this one has none.
+        number = 0
+        while self._day_at(number) in other:
+            number += 1
+        return self._day_at(number)
 
     def first_unlike(self, other):
         """The least day that is in exactly one of both sets, or None."""
-        return (self ^ other).next_from(0)
+        one = self.first_beyond(other)
+        two = other.first_beyond(self)
+        if one is None or two is None:
+            return two if one is None else one
+        return one if one < two else two
 
     def shifted(self, days):
         """The set of the days moved by so many days, without those that come to lie below 0."""
@@ -346,6 +363,14 @@ class DaySet:
         turns, rest = divmod(day - self._start, self._period)
         repeated = turns * len(self._cycle) + place_of(self._cycle, self._start + rest)
         return len(self._head) + repeated
+
+    def _among(self, days):
+        """Those of some ascending days that are in the set."""
+        start = self._start
+        known = place_of(days, start)
+        there = set(self._cycle)
+        late = [day for day in days[known:] if start + (day - start) % self._period in there]
+        return in_both(days[:known], self._head) + late
 
     def _listed(self, low, high):
         """The list of the days from low on and before high; low is not below 0."""

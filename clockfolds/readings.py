@@ -12,6 +12,12 @@ def check_second(value):
         raise BadNumber(value)
 
 
+def check_gap(value):
+    """Raise BadWord(value) if the value does not say what to do with a skipped reading."""
+    if value is not None and value not in ("before", "after"):
+        raise BadWord(value)
+
+
 def spans_around(zone, low, high):
     """The stretches of a zone in which its clock may show readings from low on and before high."""
     # No offset is as long as a day.
@@ -35,18 +41,29 @@ def fold_at(zone, instant):
     return instants_of(zone, reading_at(zone, instant)).index(instant)
 
 
+def shown_spans(zone, low, high):
+    """The tuples (low, high, offset) of readings that the clock shows between its changes, in their order.
+
+    The readings are from low on and before high.
+    """
+    shown = []
+    for begin, end, offset in spans_around(zone, low, high):
+        first = begin + offset if begin + offset > low else low
+        last = end + offset if end + offset < high else high
+        if first < last:
+            shown.append((first, last, offset))
+    return shown
+
+
 def number_steps(zone, low, high):
     """A dict from the readings at which the number of instants may change to the difference.
 
     The readings are from low on and not after high; before low, the number counts as 0, and at high, too.
     """
     steps = {}
-    for begin, end, offset in spans_around(zone, low, high):
-        first = begin + offset if begin + offset > low else low
-        last = end + offset if end + offset < high else high
-        if first < last:
-            steps[first] = steps.get(first, 0) + 1
-            steps[last] = steps.get(last, 0) - 1
+    for first, last, _ in shown_spans(zone, low, high):
+        steps[first] = steps.get(first, 0) + 1
+        steps[last] = steps.get(last, 0) - 1
     return steps
 
 
@@ -83,8 +100,7 @@ def resolved(zone, reading, *, fold=0, gap=None):
     """The instant of a reading with a fold; for a skipped reading the one that gap asks for, or None."""
     check_number(reading)
     check_number(fold, 0)
-    if gap is not None and gap not in ("before", "after"):
-        raise BadWord(gap)
+    check_gap(gap)
     instants = instants_of(zone, reading)
     if instants:
         return instants[fold] if fold < len(instants) else instants[-1]
@@ -102,47 +118,50 @@ def repeating(zone):
     return start, (1 if zone.form[3] is None else CYCLE_DAYS)
 
 
-def days_between(low, high, second):
-    """The days from 0 on whose reading at a second lies from low on and before high, ascending."""
-    first = max(0, -((second - low) // DAY))
-    return list(range(first, -((second - high) // DAY)))
+def end_of(frame):
+    """The reading at which the first period of the days of a frame (start, period) ends."""
+    start, period = frame
+    return DAY * (start + period)
 
 
-def days_in(zone, second, stretches):
+def day_from(low, second):
+    """The first day on which a second of the day is not before a reading, or an instant."""
+    return -((second - low) // DAY)
+
+
+def days_in(frame, second, stretches):
     """The day set of the days whose reading at a second lies in one of some stretches of readings.
 
-    The pairs (low, high) are ascending and tell all such stretches in the days before the end of the first period.
+    From the start of the frame (start, period) on, these days repeat. The pairs (low, high) are ascending and tell
+    all such stretches from 0 on and before the end of the first period.
     """
-    start, period = repeating(zone)
-    listed = []
+    start, period = frame
+    days = []
     for low, high in stretches:
-        listed.extend(days_between(low, high, second))
-    return DaySet(start, period, [day for day in listed if day < start + period])
-
-
-def end_of_period(zone):
-    """The reading at which the first period of the days of a zone ends."""
-    start, period = repeating(zone)
-    return DAY * (start + period)
+        days.extend(list(range(day_from(low, second), day_from(high, second))))
+    return DaySet(start, period, days)
 
 
 def days_with(zone, second, offset):
     """The day set of the days whose reading at a second has an instant with an offset."""
     check_second(second)
     check_offset(offset)
-    spans = spans_around(zone, 0, end_of_period(zone))
-    return days_in(zone, second, [(low + offset, high + offset) for low, high, kept in spans if kept == offset])
+    frame = repeating(zone)
+    spans = shown_spans(zone, 0, end_of(frame))
+    return days_in(frame, second, [(low, high) for low, high, kept in spans if kept == offset])
 
 
 def skipped(zone, second):
     """The day set of the days whose reading at a second has no instant."""
     check_second(second)
-    stretches = profile(zone, 0, end_of_period(zone))
-    return days_in(zone, second, [(low, high) for low, high, number in stretches if number == 0])
+    frame = repeating(zone)
+    stretches = profile(zone, 0, end_of(frame))
+    return days_in(frame, second, [(low, high) for low, high, number in stretches if number == 0])
 
 
 def repeated(zone, second):
     """The day set of the days whose reading at a second has at least two instants."""
     check_second(second)
-    stretches = profile(zone, 0, end_of_period(zone))
-    return days_in(zone, second, [(low, high) for low, high, number in stretches if number > 1])
+    frame = repeating(zone)
+    stretches = profile(zone, 0, end_of(frame))
+    return days_in(frame, second, [(low, high) for low, high, number in stretches if number > 1])

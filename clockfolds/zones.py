@@ -170,6 +170,7 @@ class Zone:
     def __init__(self, offset, changes=(), *, rule=None, since=None):
         check_offset(offset)
         check_changes(changes)
+        self._told = (offset, tuple(changes), rule, since)
         self._offset = offset
         self._changes = real_changes(offset, changes)
         self._since = None
@@ -198,6 +199,11 @@ class Zone:
     def __eq__(self, other):
         return (isinstance(other, Zone) and self._offset == other._offset and self._changes == other._changes
                 and self._since == other._since and self._table == other._table)
+
+    @property
+    def told(self):
+        """The first offset, the changes, the rule and since with which the zone was made."""
+        return self._told
 
     @property
     def form(self):

@@ -10,6 +10,14 @@ NO_NUMBERS = [True, False, None, "", "1", [], [1], (), (1,), {}, {1: 1}]
 # Values of which none is a list.
 NO_LISTS = [True, False, None, 0, 5, -1, "", "01", {}, {0: 1}]
 
+# Values of which none is a string.
+NO_TEXTS = [True, False, None, 0, 5, -1, [], ["2000-01-01"], (), ("nth", 3, 2, 6), {}, {"a": 1}, b"2000-01-01",
+            object()]
+
+# Characters that no text has; some of them look like those of texts.
+ODD_LETTERS = ["\t", "\r", "\x00", "\x7f", "%", "\u00e9", "\u00b2", "\u0665", "\uff15", "\u2212", "\u00a0",
+               "\U0001d7d3", "\ud800"]
+
 
 def truth(head, cycle, day):
     """Whether head, then cycle for ever, says that a day from 0 on is in the set."""

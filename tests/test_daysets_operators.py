@@ -100,6 +100,22 @@ class OperatorsTest(unittest.TestCase):
             self.assertIsNone(days.first_beyond(days))
             self.assertIsNone(days.first_unlike(days))
 
+    def test_finite_sets_of_far_days(self):
+        far = 10 ** 25
+        finite, weeks = DaySet.of([2, 9, 10, far, far + 3]), DaySet.weekdays([0]) | DaySet.of([10])
+        kept = [day for day in (2, 9, 10, far, far + 3) if day == 10 or day % 7 == 2]
+        self.assertEqual(finite & weeks, DaySet.of(kept))
+        self.assertEqual(weeks & finite, DaySet.of(kept))
+        self.assertEqual(finite - weeks, DaySet.of(sorted({2, 9, 10, far, far + 3} - set(kept))))
+        self.assertEqual(form(finite & weeks), (kept[-1] + 1, 1, kept, []))
+        self.assertEqual((weeks.first_beyond(finite), finite.first_beyond(weeks)), (16, (finite - weeks).nth(0)))
+        self.assertEqual((weeks.first_unlike(finite), finite.first_unlike(weeks)), (16, 16))
+        self.assertFalse(weeks.within(finite))
+        self.assertTrue(DaySet.of(kept).within(weeks))
+        self.assertEqual((finite | DaySet.of([far + 5])) ^ finite, DaySet.of([far + 5]))
+        self.assertEqual(finite & DaySet.span(10), DaySet.of([10, far, far + 3]))
+        self.assertEqual(finite.first_unlike(DaySet.of([2, 9, 10, far])), far + 3)
+
     def test_by_name(self):
         odd = DaySet.every(2, 1)
         full = DaySet.span(0)

@@ -5,10 +5,12 @@ import pathlib
 import unittest
 
 import clockfolds
-from clockfolds import comparing, dates, daysets, errors, moments, readings, yearly, zones
+from clockfolds import (
+    comparing, dates, daysets, errors, logs, moments, readings, runs, texts, versions, yearly, zones)
 from clockfolds.daysets import DaySet
 from clockfolds.errors import BadNumber, BadRow, BadYearly, BadZone
 from clockfolds.moments import Moment
+from clockfolds.runs import Runs
 from clockfolds.zones import Zone
 from models import form
 from zone_models import SUMMER
@@ -32,15 +34,30 @@ FUNCTIONS = {
     comparing: {
         "mixed": "one, other", "first_broken": "moments", "first_turn": "zone, instant", "order": "moments",
     },
+    runs: {"runs_of": "zone, days, second, *, fold='first', gap=None"},
+    versions: {
+        "moved_days": "old, new, second", "moved_readings": "old, new, low, high", "first_moved": "old, new",
+        "moved_runs": "old, new, days, second, *, fold='first', gap=None",
+    },
+    logs: {
+        "earliest": "entries, limits", "latest": "entries, limits", "possible": "entries, limits",
+        "refutation": "entries, limits", "is_refutation": "entries, limits, steps", "in_order": "entries, gap=0",
+    },
+    texts: {
+        "date_text": "day", "offset_text": "offset", "moment_text": "moment", "yearly_text": "yearly",
+        "zone_text": "zone", "read_date": "text", "read_yearly": "text", "read_zone": "text",
+        "read_moment": "zone, text",
+    },
 }
 
-FILES = {DaySet: daysets, Zone: zones, Moment: moments}
+FILES = {DaySet: daysets, Zone: zones, Moment: moments, Runs: runs}
 
 MAKERS = {
     DaySet: {"of": "days", "span": "low, high=None", "every": "period, first=0", "weekdays": "weekdays",
              "pattern": "head, cycle"},
     Zone: {"fixed": "offset"},
     Moment: {"of": "zone, year, month, day, second=0, *, fold=0, gap=None"},
+    Runs: {"once": "instants"},
 }
 
 METHODS = {
@@ -56,21 +73,28 @@ METHODS = {
     Moment: {
         "__init__": "zone, instant", "fold": "", "in_zone": "zone", "moved": "*, days=0, seconds=0, fold=0, gap=None",
     },
+    Runs: {
+        "__init__": "parts", "within": "other", "shifted": "seconds", "how_many": "low, high", "nth": "number",
+        "next_from": "instant", "last_to": "instant", "first_beyond": "other", "first_unlike": "other",
+        "first_meeting": "other", "instants": "low, high",
+    },
 }
 
 OPERATORS = {
     DaySet: ["__or__", "__and__", "__sub__", "__xor__", "__invert__", "__eq__", "__contains__", "__bool__"],
     Zone: ["__eq__"],
     Moment: ["__eq__", "__lt__", "__le__", "__gt__", "__ge__", "__add__", "__sub__"],
+    Runs: ["__or__", "__and__", "__sub__", "__xor__", "__eq__", "__contains__", "__bool__"],
 }
 
 PROPERTIES = {
     DaySet: ["start", "period", "head", "cycle", "is_finite"],
     Zone: ["form"],
     Moment: ["zone", "instant", "offset", "reading", "day", "second", "date"],
+    Runs: ["parts"],
 }
 
-OBJECTS = [DaySet.every(3, 5), Zone(3600, rule=SUMMER, since=0), Moment(Zone(60), 5)]
+OBJECTS = [DaySet.every(3, 5), Zone(3600, rule=SUMMER, since=0), Moment(Zone(60), 5), Runs({5: DaySet.every(2)})]
 
 
 class InterfaceTest(unittest.TestCase):
@@ -173,7 +197,16 @@ class ConventionsTest(unittest.TestCase):
                 lambda: readings.repeated(zone, truth), lambda: Moment(zone, truth),
                 lambda: Moment.of(zone, 2000, 1, 1, truth), lambda: Moment(zone, 5) + truth,
                 lambda: Moment(zone, 5) - truth, lambda: Moment(zone, 5).moved(fold=truth),
-                lambda: comparing.first_turn(zone, truth),
+                lambda: comparing.first_turn(zone, truth), lambda: Runs({truth: DaySet.every(2)}),
+                lambda: Runs.once([truth]), lambda: Runs({}).shifted(truth), lambda: Runs({}).how_many(truth, 5),
+                lambda: Runs({}).how_many(5, truth), lambda: Runs({}).nth(truth), lambda: Runs({}).next_from(truth),
+                lambda: Runs({}).last_to(truth), lambda: list(Runs({}).instants(truth, 5)),
+                lambda: list(Runs({}).instants(5, truth)), lambda: runs.runs_of(zone, DaySet.every(2), truth),
+                lambda: versions.moved_days(zone, zone, truth), lambda: versions.moved_readings(zone, zone, truth, 5),
+                lambda: versions.moved_readings(zone, zone, -5, truth),
+                lambda: versions.moved_runs(zone, zone, DaySet.every(2), truth),
+                lambda: logs.in_order([(zone, 5)], truth), lambda: texts.date_text(truth),
+                lambda: texts.offset_text(truth),
             ):
                 with self.assertRaises(BadNumber) as caught:
                     question()
@@ -185,12 +218,23 @@ class ConventionsTest(unittest.TestCase):
         self.assertEqual(readings.profile(one, 0, 10 ** 8), readings.profile(other, 0, 10 ** 8))
         self.assertEqual(readings.skipped(one, 9000), readings.skipped(other, 9000))
         self.assertEqual(comparing.first_turn(one, 6), comparing.first_turn(other, 6))
+        days = DaySet.weekdays([0])
+        self.assertEqual(runs.runs_of(one, days, 9000).parts, runs.runs_of(other, days, 9000).parts)
+        self.assertEqual(versions.moved_readings(one, Zone(0), 0, 10 ** 8),
+                         versions.moved_readings(other, Zone(0), 0, 10 ** 8))
+        limits = logs.in_order([(one, 5)] * 3, 9)
+        self.assertEqual(logs.refutation([(one, 5000)] * 3, limits), logs.refutation([(other, 5000)] * 3, limits))
 
     def test_lists_of_readings_and_moments_are_new(self):
         zone = Zone(0, [(100, -50)])
         for question in (lambda: readings.instants_of(zone, 60), lambda: readings.profile(zone, 0, 200),
                          lambda: moments.agrees(zone, 0, 200, 60), lambda: zones.rule_changes(SUMMER, 2000),
-                         lambda: comparing.order([Moment(zone, 5)]), lambda: list(zone.changes(0, 200))):
+                         lambda: comparing.order([Moment(zone, 5)]), lambda: list(zone.changes(0, 200)),
+                         lambda: versions.moved_readings(zone, Zone(0), 0, 200),
+                         lambda: logs.earliest([(zone, 60)], []),
+                         lambda: logs.latest([(zone, 60)], []), lambda: logs.possible([(zone, 60)], []),
+                         lambda: logs.refutation([(zone, 60)], [(0, 0, 1, 1)]),
+                         lambda: logs.in_order([(zone, 60)] * 2)):
             found = question()
             self.assertIs(type(found), list)
             self.assertNotEqual(found, [])

@@ -3,6 +3,10 @@
 import doctest
 import unittest
 
+from clockfolds.errors import BadOrder, BadText
+from clockfolds.texts import moment_text, read_moment, read_zone
+from clockfolds.zones import Zone, check_rule
+
 SESSION = """
 >>> from clockfolds.dates import date_of, day_of, kind_of, week_of, weekday
 >>> (day_of(2000, 3, 1), date_of(-1), weekday(0))
@@ -52,6 +56,19 @@ SESSION = """
 >>> early, late, other = Moment(zone, 26096399), Moment(zone, 26096400), Moment(Zone.fixed(0), 26096400)
 >>> (mixed(early, late), mixed(late, other), first_broken([early, late, other]), first_turn(zone, 0))
 (1, 0, (0, 2, 1), (26092800, 26096400))
+
+>>> from clockfolds.runs import runs_of
+>>> here = runs_of(zone, DaySet.weekdays([0]), 9 * 3600)
+>>> there = runs_of(Zone.fixed(7200), DaySet.weekdays([0]), 9 * 3600)
+>>> (here == there, here.first_unlike(there), there.first_meeting(here), here.how_many(0, 146097 * 86400))
+(False, 198000, 7455600, 20871)
+
+>>> from clockfolds.logs import earliest, in_order, latest, refutation
+>>> entries = [(zone, autumn), (zone, autumn - 1800), (zone, autumn - 900)]
+>>> (earliest(entries, in_order(entries)), latest(entries, in_order(entries)))
+([26094600, 26096400, 26097300], [26094600, 26096400, 26097300])
+>>> refutation(entries, in_order(entries, 1801))
+[(0, 26094600, 0), (0, 26098200, 0)]
 """
 
 
@@ -62,7 +79,19 @@ class SessionTest(unittest.TestCase):
         told = []
         result = doctest.DocTestRunner(verbose=False).run(session, out=told.append)
         self.assertEqual((result.failed, "".join(told)), (0, ""))
-        self.assertEqual(result.attempted, 29)
+        self.assertEqual(result.attempted, 37)
+
+    def test_examples_between_the_words(self):
+        summer = ((("last", 3, 6), 3600, "utc", 7200), (("last", 10, 6), 3600, "utc", 3600))
+        zone = Zone(3600, rule=summer, since=0)
+        with self.assertRaises(BadOrder) as caught:
+            check_rule(((("last", 3, 6), 0, "utc", 3600), (("date", 3, 28), 0, "utc", 0)))
+        self.assertEqual((caught.exception.year, caught.exception.index), (2002, 1))
+        with self.assertRaises(BadText) as caught:
+            read_zone("offset 0\nsince 1\n")
+        self.assertEqual(caught.exception.line, 2)
+        text = "2000-03-26T03:30:00+02:00"
+        self.assertEqual(moment_text(read_moment(zone, text)), text)
 
 
 if __name__ == "__main__":
