@@ -97,6 +97,14 @@ class LanguageTest(unittest.TestCase):
                 if isinstance(node, ast.Expr):
                     self.assertIsInstance(node.value, ast.Constant, path)
 
+    def test_module_level_values(self):
+        kinds = (ast.Constant, ast.Tuple, ast.List, ast.Dict, ast.BinOp, ast.UnaryOp, ast.operator, ast.unaryop, ast.Load)
+        for path, _, tree in parsed():
+            for node in [node for node in tree.body if isinstance(node, ast.Assign)]:
+                self.assertEqual([type(target) for target in node.targets], [ast.Name], path)
+                for part in ast.walk(node.value):
+                    self.assertIsInstance(part, kinds, (path, node.lineno))
+
     def test_sorted_and_max(self):
         # Beside a class with an order, these take only what is plainly numbers.
         for path, _, tree in parsed():

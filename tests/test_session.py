@@ -1,6 +1,7 @@
 """The examples of the document, as one session."""
 
 import doctest
+import pathlib
 import unittest
 
 from clockfolds.errors import BadOrder, BadText
@@ -72,14 +73,24 @@ SESSION = """
 """
 
 
+README = pathlib.Path(__file__).parent.parent / "README.md"
+
+
 class SessionTest(unittest.TestCase):
 
-    def test_examples(self):
-        session = doctest.DocTestParser().get_doctest(SESSION, {}, "session", None, 0)
+    def run_session(self, text):
+        """How many examples of a session there are; all of them hold."""
+        session = doctest.DocTestParser().get_doctest(text, {}, "session", None, 0)
         told = []
         result = doctest.DocTestRunner(verbose=False).run(session, out=told.append)
         self.assertEqual((result.failed, "".join(told)), (0, ""))
-        self.assertEqual(result.attempted, 37)
+        return result.attempted
+
+    def test_examples(self):
+        self.assertEqual(self.run_session(SESSION), 37)
+
+    def test_examples_of_the_readme(self):
+        self.assertGreater(self.run_session(README.read_text().split("```")[1]), 30)
 
     def test_examples_between_the_words(self):
         summer = ((("last", 3, 6), 3600, "utc", 7200), (("last", 10, 6), 3600, "utc", 3600))
