@@ -134,13 +134,14 @@ class Runs:
         begin = self.next_from(low)
         while begin is not None and begin < high:
             end = begin + LISTED_AT_ONCE if begin + LISTED_AT_ONCE < high else high
-            found = self._listed(begin, end)
+            found = self._instants_between(begin, end)
             yield from found
             begin = self.next_from(end)
 
     def _days_at(self, second):
         """The day set of a second of the UTC day."""
-        return self._parts[second] if second in self._parts else DaySet.of([])
+        # Made without of: operators call this, and a moment's of goes on to generators.
+        return self._parts[second] if second in self._parts else DaySet(0, 1, [])
 
     def _many_to(self, day):
         """How many instants are on the days up to this one."""
@@ -156,7 +157,7 @@ class Runs:
             raise TooFew(self._many_to(end))
         return end
 
-    def _listed(self, low, high):
+    def _instants_between(self, low, high):
         """The list of the instants from low on and before high, ascending."""
         found = []
         for second, part in self._parts.items():

@@ -2,10 +2,9 @@
 
 import ast
 import builtins
-import pathlib
 import unittest
 
-PACKAGE = pathlib.Path(__file__).parent.parent / "clockfolds"
+from sources import PACKAGE, parsed
 
 # The prompt of a session that a test runs may have set "_".
 BUILTIN_NAMES = set(dir(builtins)) - {"_"}
@@ -17,10 +16,6 @@ BUILTINS = {
     "tuple", "dict", "set", "isinstance", "ord", "repr", "any", "all", "divmod", "ValueError", "NotImplemented",
     "property", "classmethod", "super",
 }
-
-
-def parsed():
-    return [(path, path.read_text(), ast.parse(path.read_text())) for path in sorted(PACKAGE.glob("*.py"))]
 
 
 def bound(node):
